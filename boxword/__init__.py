@@ -1,0 +1,1 @@
+"""Boxword: words of letters without end, and machines with few boxes."""
