@@ -1,5 +1,6 @@
 """Machines and words that several tests use; each call makes new ones."""
 
+import itertools
 import random
 
 FAR = 999999999999999
@@ -186,3 +187,97 @@ def with_two_boxes(first, second, last):
         (False, 1, [(1, (0,)), (2, (0, 1))]),
         (True, 2, [first, second, last]),
     ]
+
+
+def otherwise(machine, seed):
+    """A machine that takes the same words and is built otherwise: states are numbered otherwise and told twice,
+    their boxes are called otherwise, there are boxes that are of no use, and states that no word comes to."""
+    chance = random.Random(seed)
+    copies = [(0, [])] + copies_of(machine, chance)
+    built = []
+    for number, slots in copies:
+        moves = [slot_move(machine, copies, number, slots, slot, chance) for slot in range(len(slots) + 1)]
+        built.append((machine[number][0], len(slots), moves))
+    widths = [len(slots) for number, slots in copies] + [0]
+    return built + [(chance.random() < 0.5, 0, [mixed_move(chance, widths, 1)])]
+
+
+def copies_of(machine, chance):
+    """Pairs of a state and of what each box of its copy stands for: a box of that state, or None."""
+    copies = []
+    for number, state in enumerate(machine):
+        boxes = list(range(state[1]))
+        wider = boxes + [None] * chance.randint(0, 6 - state[1])
+        for slots in (boxes, wider):
+            chance.shuffle(slots)
+            copies.append((number, slots))
+    chance.shuffle(copies)
+    return copies
+
+
+def slot_move(machine, copies, number, slots, slot, chance):
+    state = machine[number]
+    letters = len(slots) + (1 if slot == len(slots) else 0)
+    standing = {box: at for at, box in enumerate(slots) if box is not None}
+    # A letter in a box of no use goes by the last move, and is then the letter that is read.
+    standing[state[1]] = slot
+    box = (slots + [None])[slot]
+    move = state[2][state[1] if box is None else box]
+    fit = [at for at, copy in enumerate(copies) if copy[0] == move[0] and len(copy[1]) <= letters]
+    target = chance.choice(fit)
+    sources = [None if some is None else standing[move[1][some]] for some in copies[target][1]]
+    free = [at for at in range(letters) if at not in sources]
+    chance.shuffle(free)
+    return (target, tuple(free.pop() if source is None else source for source in sources))
+
+
+def picker(boxes, orders):
+    """Takes the words of some unlike letters, and then of the same ones again in one of some orders."""
+    heads = [head for size in range(boxes + 1) for head in itertools.permutations(range(boxes), size)]
+    lost = (boxes + len(heads), ())
+    machine = []
+    for kept in range(boxes):
+        machine.append((False, kept, [lost] * kept + [(kept + 1, tuple(range(kept + 1)))]))
+    for head in heads:
+        longer = [head + (box,) for box in range(boxes)]
+        moves = [(boxes + heads.index(some), tuple(range(boxes))) if some in heads else lost for some in longer]
+        machine.append((head in orders, boxes, moves + [lost]))
+    return machine + [(False, 0, [lost])]
+
+
+def among(boxes):
+    """Takes the words whose last letter was among the first ones that were unlike; how these are called is of no
+    matter, and each letter that comes puts them in another order."""
+    machine = keeper(0, boxes)[:boxes]
+    machine.append((False, boxes, shuffling(boxes, boxes + 1, boxes)))
+    machine.append((True, boxes, shuffling(boxes, boxes + 1, boxes)))
+    return machine
+
+
+def shuffling(boxes, if_there, if_new):
+    same = list(range(boxes))
+    moves = [(if_there, tuple(same[box:] + same[:box])) for box in range(boxes)]
+    return moves + [(if_new, tuple(reversed(same)))]
+
+
+def good_all_over(machine):
+    return [(True, boxes, moves) for good, boxes, moves in machine]
+
+
+def triple_of(in_one, in_other, held):
+    """The triple of two places, and the letters of its pairs; `held` are the letters in their turn."""
+    order = [letter for letter in held if letter in in_one[1] or letter in in_other[1]]
+    pairs = tuple((box_of(in_one[1], letter), box_of(in_other[1], letter)) for letter in order)
+    return (in_one[0], in_other[0], pairs), order
+
+
+def box_of(kept, letter):
+    return kept.index(letter) if letter in kept else None
+
+
+def spoil(machine):
+    """Changes all lists of a machine."""
+    for state in machine:
+        state[2].append((0, ()))
+        state[2][0] = (1, (5,))
+    machine.pop()

@@ -28,7 +28,7 @@ def joined_by_words(word, one, other):
         moves = []
         for letter in held:
             longer = came + [letter]
-            triple, order = triple_of(gone(one, longer), gone(other, longer), held)
+            triple, order = samples.triple_of(gone(one, longer), gone(other, longer), held)
             if triple not in numbers:
                 numbers[triple] = len(found)
                 found.append((longer, order))
@@ -38,16 +38,6 @@ def joined_by_words(word, one, other):
         good = DUE[word](takes(one, came), takes(other, came))
         machine.append((good, len(letters), moves))
     return machine
-
-
-def triple_of(in_one, in_other, held):
-    order = [letter for letter in held if letter in in_one[1] or letter in in_other[1]]
-    pairs = tuple((box_of(in_one[1], letter), box_of(in_other[1], letter)) for letter in order)
-    return (in_one[0], in_other[0], pairs), order
-
-
-def box_of(kept, letter):
-    return kept.index(letter) if letter in kept else None
 
 
 class TestTurned(unittest.TestCase):
@@ -281,14 +271,14 @@ class TestNothingIsChangedOrKept(unittest.TestCase):
     def test_a_turned_machine_is_a_new_one(self):
         machine = samples.two_back()
         told = turned(machine)
-        spoil(told)
+        samples.spoil(told)
         self.assertEqual(machine, samples.two_back())
         self.assertEqual(turned(machine), turned(samples.two_back()))
 
     def test_a_joined_machine_is_a_new_one(self):
         one, other = samples.two_back(), samples.everything()
         due = joined("both", samples.two_back(), samples.everything())
-        spoil(joined("both", one, other))
+        samples.spoil(joined("both", one, other))
         self.assertEqual(one, samples.two_back())
         self.assertEqual(other, samples.everything())
         self.assertEqual(joined("both", one, other), due)
@@ -297,16 +287,9 @@ class TestNothingIsChangedOrKept(unittest.TestCase):
         one, other = samples.two_back(), samples.neighbours()
         calls = [turned(one), joined("less", one, other)]
         before = copy.deepcopy(calls)
-        spoil(one)
-        spoil(other)
+        samples.spoil(one)
+        samples.spoil(other)
         self.assertEqual(calls, before)
-
-
-def spoil(machine):
-    for state in machine:
-        state[2].append((0, ()))
-        state[2][0] = (1, (5,))
-    machine.pop()
 
 
 if __name__ == "__main__":

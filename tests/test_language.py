@@ -151,6 +151,15 @@ class TestForms(unittest.TestCase):
                 for some in node.body:
                     self.assertIsInstance(some, (ast.FunctionDef, ast.Pass), name)
 
+    def test_no_name_is_a_method_and_a_value(self):
+        methods = {some.name for name, node in nodes() if isinstance(node, ast.ClassDef) for some in node.body
+                   if isinstance(some, ast.FunctionDef)}
+        values = {node.attr for name, node in nodes() if isinstance(node, ast.Attribute)
+                  and isinstance(node.ctx, ast.Store)}
+        self.assertEqual(methods & values, set())
+        # The interface names these as methods of a watcher.
+        self.assertEqual(values & {"told", "come", "kept"}, set())
+
     def test_is_stands_beside_none_and_truths_alone(self):
         for name, node in nodes():
             if isinstance(node, ast.Compare):
