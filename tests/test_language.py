@@ -60,8 +60,9 @@ def bound_at_top(tree):
 
 
 def bound_within(tree):
-    names = {node.arg for node in ast.walk(tree) if isinstance(node, ast.arg)}
-    return names | {node.id for node in ast.walk(tree) if isinstance(node, ast.Name) and isinstance(node.ctx, ast.Store)}
+    given = {node.arg for node in ast.walk(tree) if isinstance(node, ast.arg)}
+    names = [node for node in ast.walk(tree) if isinstance(node, ast.Name)]
+    return given | {node.id for node in names if isinstance(node.ctx, ast.Store)}
 
 
 class TestFiles(unittest.TestCase):
@@ -167,6 +168,17 @@ class TestForms(unittest.TestCase):
                     if isinstance(sign, (ast.Is, ast.IsNot)):
                         self.assertIn(getattr(right, "value", 0), (None, True, False), name)
                         self.assertIsInstance(right, ast.Constant, name)
+
+    def test_pythons_value_error_is_taken_round_int_alone(self):
+        for name, node in nodes():
+            if isinstance(node, ast.Try):
+                taken = [some.type.id for some in node.handlers]
+                self.assertEqual(set(taken) & {"Exception", "TypeError"}, set(), name)
+                if "ValueError" in taken:
+                    calls = [some.func.id for some in ast.walk(node.body[0]) if isinstance(some, ast.Call)]
+                    self.assertEqual((len(node.body), calls), (1, ["int"]), name)
+            if isinstance(node, ast.Raise):
+                self.assertIsInstance(node.exc, ast.Call, name)
 
 
 class TestNames(unittest.TestCase):
